@@ -1,0 +1,1 @@
+"""Matroidpick: things picked by weight, and the way to them."""
