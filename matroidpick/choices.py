@@ -7,6 +7,11 @@ def exchanged(choice, out, thing):
     return sorted([*kept, thing])
 
 
+def lacked_by(count, choice):
+    """List the things below `count` that the choice lacks, rising."""
+    return [thing for thing in range(count) if thing not in choice]
+
+
 def weigh(weights, choice):
     """Tell the sum of the weights of the choice's things."""
     return sum([weights[thing] for thing in choice])

@@ -5,7 +5,7 @@ from matroidpick.choices import exchanged
 
 def fault(count, table):
     """Tell the first missing exchange as (one, other, thing), or None."""
-    listed = {tuple(choice): True for choice in table}
+    listed = listing(table)
     things = things_had(count, table)
     for one in table:
         for thing in things:
@@ -14,6 +14,11 @@ def fault(count, table):
                 if other is not None:
                     return list(one), list(other), thing
     return None
+
+
+def listing(table):
+    """Tell the table's choices as the keys of a dict, to be looked up."""
+    return {tuple(choice): True for choice in table}
 
 
 def things_had(count, table):
